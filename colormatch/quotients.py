@@ -77,6 +77,18 @@ def is_quotient(value):
     return isinstance(value, Quotient)
 
 
+def sign_of(quotient):
+    """1, 0 or -1: whether a quotient is positive, zero or negative."""
+    if quotient.top > 0:
+        return 1
+    return -1 if quotient.top < 0 else 0
+
+
+def size_of(quotient):
+    """The absolute value of a quotient."""
+    return -quotient if quotient.top < 0 else quotient
+
+
 def _integer_text(number):
     # Python's str refuses integers of more than 4300 digits, and integers here
     # may be however great: so the text is put together from pieces.

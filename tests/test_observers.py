@@ -5,32 +5,19 @@ from itertools import combinations, permutations
 from colormatch.errors import BadLamp, BadObserver, BadReflectance, Irregular
 from colormatch.observers import Observer, View, color_of, is_match
 from colormatch.quotients import Quotient, one, whole, zero
-from samples import curve_bands, example_view, quotients, texts
+from samples import (
+    EXAMPLE, HALF, SQUARE, bad_reflectances, curve_bands, example_view, fraction_det, quotients, texts, with_value,
+)
 
-EXAMPLE = ((1, 0, 0), (1, 1, 1), (1, 2, 4), (1, 3, 9))
-HALF = Quotient(1, 2)
-BEYOND = (Quotient(10 ** 24 + 1, 10 ** 24), Quotient(-1, 10 ** 24), whole(2), whole(-1))
-NO_QUOTIENTS = (0, 1, True, False, 0.5, Fraction(1, 2), "1/2", None, (1, 2))
 NO_INTEGERS = (1.0, "1", None, True, False, whole(1), (1,), [1], Fraction(1), b"1")
-
-
-def integer_det(a, b, c):
-    return (
-        a[0] * b[1] * c[2] + a[1] * b[2] * c[0] + a[2] * b[0] * c[1]
-        - a[2] * b[1] * c[0] - a[1] * b[0] * c[2] - a[0] * b[2] * c[1]
-    )
 
 
 def first_irregular(bands):
     """The first triple whose determinant is not positive, or None."""
     for triple in combinations(range(len(bands)), 3):
-        if integer_det(*(bands[at] for at in triple)) <= 0:
+        if fraction_det(*(bands[at] for at in triple)) <= 0:
             return triple
     return None
-
-
-def with_value(row, at, value):
-    return row[:at] + (value,) + row[at + 1:]
 
 
 def turned(row, steps):
@@ -69,10 +56,9 @@ class Observers(unittest.TestCase):
         self.assertEqual(Observer(curve_bands(0, 1, 2, 10)).bands[3], (1, 10, 100))
         # Turned bands and turned parts keep all determinants positive, and
         # bring both 0 and 100 to each part of each band.
-        square = ((100, 0, 0), (100, 100, 0), (100, 100, 100), (100, 0, 100))
         for first in range(4):
             for turn in range(3):
-                bands = tuple(turned(band, turn) for band in turned(square, first))
+                bands = tuple(turned(band, turn) for band in turned(SQUARE, first))
                 with self.subTest(bands):
                     self.assertEqual(Observer(bands).bands, bands)
 
@@ -144,7 +130,7 @@ class Irregulars(unittest.TestCase):
     def test_a_determinant_of_0_alone(self):
         # The bands 1, 2 and 3 lie in one plane; all other triples are positive.
         bands = ((1, 0, 0), (1, 1, 1), (1, 2, 4), (1, 3, 7))
-        dets = [integer_det(*(bands[at] for at in triple)) for triple in combinations(range(4), 3)]
+        dets = [fraction_det(*(bands[at] for at in triple)) for triple in combinations(range(4), 3)]
         self.assertEqual([value > 0 for value in dets], [True, True, True, False])
         self.assertEqual(dets[3], 0)
         self.assert_irregular(bands, (1, 2, 3))
@@ -156,8 +142,8 @@ class Irregulars(unittest.TestCase):
         # The triples (0, 1, 4), (0, 2, 3) and (1, 2, 3) all fail, the last two
         # of them with the lesser greatest band.
         bands = curve_bands(0, 1, 3, 2, 1)
-        self.assertLessEqual(integer_det(*(bands[at] for at in (0, 1, 4))), 0)
-        self.assertLess(integer_det(*(bands[at] for at in (0, 2, 3))), 0)
+        self.assertLessEqual(fraction_det(*(bands[at] for at in (0, 1, 4))), 0)
+        self.assertLess(fraction_det(*(bands[at] for at in (0, 2, 3))), 0)
         self.assert_irregular(bands, (0, 1, 4))
 
     def test_bad_observer_comes_ahead(self):
@@ -261,14 +247,6 @@ class Colors(unittest.TestCase):
 
 
 class Reflectances(unittest.TestCase):
-    def bad_ones(self):
-        """Values that are no reflectances beside a view of four bands."""
-        yield from ([HALF] * 4, None, 4, "1111", HALF, (), {HALF.top: HALF}, ((HALF,) * 4,))
-        yield from ((HALF,) * many for many in (1, 3, 5, 8))
-        for at in range(4):
-            for value in BEYOND + NO_QUOTIENTS:
-                yield with_value((HALF,) * 4, at, value)
-
     def test_values_from_0_to_1(self):
         view = example_view()
         for at in range(4):
@@ -278,7 +256,7 @@ class Reflectances(unittest.TestCase):
     def test_what_is_no_reflectance(self):
         view = example_view()
         good = (HALF,) * 4
-        for bad in self.bad_ones():
+        for bad in bad_reflectances():
             with self.subTest(bad):
                 with self.assertRaises(BadReflectance):
                     color_of(view, bad)

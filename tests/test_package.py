@@ -22,6 +22,16 @@ INTERFACE = {
         "Observer": ["bands"], "View": ["observer", "lamp"], "color_of": ["view", "reflectance"],
         "is_match": ["view", "first", "second"],
     },
+    "reflectances": {
+        "parse_reflectance": ["text"], "format_reflectance": ["reflectance"], "filtered": ["first", "second"],
+        "crossings": ["first", "second"], "band_pattern": ["reflectance"],
+    },
+    "lights": {
+        "chromaticity": ["color"], "mix": ["colors", "amounts"], "mixture": ["primaries", "color"],
+        "decompose": ["observer", "white", "color"],
+    },
+    "palettes": {"nearest_color": ["palette", "color"], "diffuse": ["palette", "colors"]},
+    "matches": {"matching_lamp": ["observer", "first", "second"], "other_match": ["view", "reflectance"]},
     "errors": {"Irregular": ["triple"], "TextFault": ["place"]},
 }
 METHODS = {

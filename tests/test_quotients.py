@@ -4,7 +4,7 @@ from fractions import Fraction
 from math import gcd
 
 from colormatch.errors import BadQuotient
-from colormatch.quotients import Quotient, is_quotient, one, total, whole, zero
+from colormatch.quotients import Quotient, is_quotient, one, sign_of, size_of, total, whole, zero
 
 SMALL = [(top, bottom) for top in (-6, -3, -2, -1, 0, 1, 2, 3, 4, 9) for bottom in (-4, -3, -1, 1, 2, 3, 6)]
 GREAT = [
@@ -180,6 +180,14 @@ class Totals(Case):
             self.assert_is(total(nothing), Fraction(0))
 
 
+class Signs(Case):
+    def test_signs_and_sizes(self):
+        for raw in RAW:
+            value = Fraction(*raw)
+            self.assertEqual(sign_of(Quotient(*raw)), (value > 0) - (value < 0))
+            self.assert_is(size_of(Quotient(*raw)), abs(value))
+
+
 class Kinds(Case):
     def test_is_quotient(self):
         for quotient in (zero(), one(), Quotient(-2, 3)):
@@ -196,6 +204,7 @@ class Unchanged(Case):
             lambda: first + second, lambda: first - second, lambda: first * second, lambda: -first,
             lambda: first == second, lambda: first < second, lambda: first <= second, lambda: str(first),
             lambda: first.over(second), lambda: total([first, second]), lambda: is_quotient(first),
+            lambda: sign_of(first), lambda: size_of(first),
         ):
             operation()
             self.assertEqual((first.top, first.bottom, second.top, second.bottom), (-2, 3, 5, 7))
