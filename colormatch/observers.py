@@ -66,13 +66,14 @@ def is_reflectance(view, value):
     return isinstance(value, tuple) and len(value) == len(view) and all([_is_share(part) for part in value])
 
 
-def _is_share(value):
-    return is_quotient(value) and zero() <= value and value <= one()
-
-
-def _is_integer(value, least, most):
+def is_number(value, least, most):
+    """Whether a value is an integer from a least to a most one."""
     # True and False are not integers here, though they are for isinstance.
     return isinstance(value, int) and not isinstance(value, bool) and least <= value and value <= most
+
+
+def _is_share(value):
+    return is_quotient(value) and zero() <= value and value <= one()
 
 
 def _are_bands(bands):
@@ -84,13 +85,13 @@ def _are_bands(bands):
 
 
 def _is_band(band):
-    return isinstance(band, tuple) and len(band) == PARTS and all([_is_integer(part, 0, MOST_PART) for part in band])
+    return isinstance(band, tuple) and len(band) == PARTS and all([is_number(part, 0, MOST_PART) for part in band])
 
 
 def _is_lamp(observer, lamp):
     if not isinstance(lamp, tuple) or len(lamp) != len(observer):
         return False
-    return all([_is_integer(light, LEAST_LIGHT, MOST_LIGHT) for light in lamp])
+    return all([is_number(light, LEAST_LIGHT, MOST_LIGHT) for light in lamp])
 
 
 def _first_irregular(vectors):

@@ -62,8 +62,8 @@ def sign_blocks(differences):
 
 def band_pattern(reflectance):
     """The first band pattern (i, j, kind) that a reflectance is, or None."""
-    passing = _first_pair(reflectance, one(), zero())
-    stopping = _first_pair(reflectance, zero(), one())
+    passing = _first_pair(reflectance, PASS)
+    stopping = _first_pair(reflectance, STOP)
     if passing is None and stopping is None:
         return None
     if stopping is None or (passing is not None and passing <= stopping):
@@ -73,13 +73,30 @@ def band_pattern(reflectance):
     return (i, j, STOP)
 
 
+def is_band_pattern(reflectance, pair, kind):
+    """Whether a reflectance is the band pattern of two bands i < j and a kind."""
+    i, j = pair
+    inner, outer = pattern_parts(kind)
+    return (
+        _is_all(reflectance, 0, i, outer)
+        and _is_all(reflectance, i + 1, j, inner)
+        and _is_all(reflectance, j + 1, len(reflectance), outer)
+    )
+
+
+def pattern_parts(kind):
+    """The value between the two bands of a band pattern of a kind, and the value outside."""
+    return (one(), zero()) if kind == PASS else (zero(), one())
+
+
 def _require_equal_lengths(first, second):
     if len(first) != len(second):
         raise LengthsDiffer("the two reflectances have unequal lengths")
 
 
-def _first_pair(reflectance, inner, outer):
-    """The first bands (i, j) with inner values between them and outer ones outside, or None."""
+def _first_pair(reflectance, kind):
+    """The first bands (i, j) of a band pattern of a kind that a reflectance is, or None."""
+    inner, outer = pattern_parts(kind)
     count = len(reflectance)
     least = count - 1
     # No j ahead of the last band without the outer value can do.

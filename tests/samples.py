@@ -1,17 +1,22 @@
 """What several test files need: bands, views and reflectances."""
 
 from fractions import Fraction
+from itertools import combinations, product
 from random import Random
 
 from colormatch.observers import Observer, View
-from colormatch.quotients import Quotient, whole
+from colormatch.quotients import Quotient, one, whole, zero
+from colormatch.vectors import added, scaled, taken
 
 EXAMPLE = ((1, 0, 0), (1, 1, 1), (1, 2, 4), (1, 3, 9))
 HALF = Quotient(1, 2)
+TINY = Quotient(1, 10 ** 30)
 BEYOND = (Quotient(10 ** 24 + 1, 10 ** 24), Quotient(-1, 10 ** 24), whole(2), whole(-1))
 NO_QUOTIENTS = (0, 1, True, False, 0.5, Fraction(1, 2), "1/2", None, (1, 2))
 # Regular, but not on the curve of the others: with parts 0 and 100 in each place.
 SQUARE = ((100, 0, 0), (100, 100, 0), (100, 100, 100), (100, 0, 100))
+# All determinants of these are 1.
+UNITS = ((1, 0, 0), (1, 1, 0), (1, 1, 1), (1, 0, 1))
 
 
 def quotient(text):
@@ -112,3 +117,76 @@ def some_colors(count, seed):
             bottom = source.choice((1, 1, 2, 7, 10 ** 20 + 39))
             values.append(Quotient(source.randint(-3 * bottom, 4 * bottom), bottom))
         yield tuple(values)
+
+
+def patterns(many, ends):
+    """All band patterns of so many values, as (i, j, kind, reflectance), with these values at their ends."""
+    for i, j in combinations(range(many), 2):
+        for kind in ("pass", "stop"):
+            for first, second in product(ends, repeat=2):
+                values = [one() if (i < band < j) == (kind == "pass") else zero() for band in range(many)]
+                values[i], values[j] = first, second
+                yield i, j, kind, tuple(values)
+
+
+def some_patterns(many, ends):
+    """All band patterns of 4 or 5 values; of more values, some with each pair of values at their ends."""
+    # Neither 4 nor 9 pairs of values at the ends come around with a step of 5.
+    return list(patterns(many, ends))[::1 if many < 6 else 5]
+
+
+def across(first, second):
+    """The vector whose product with a color is the determinant of these two and the color."""
+    a, b, c = first
+    d, e, f = second
+    return (b * f - c * e, c * d - a * f, a * e - b * d)
+
+
+def beside(view, i, j, color, step):
+    """A color moved so that its determinant with the generators of i and j alone grows by a step's sign."""
+    return added(color, scaled(step, across(view.generators[i], view.generators[j])))
+
+
+def moved(color, step):
+    """The six colors that differ from a color by a step in one part."""
+    for part in range(3):
+        change = tuple(step if at == part else zero() for at in range(3))
+        yield added(color, change)
+        yield taken(color, change)
+
+
+def solved(rows, color):
+    """The amounts of three rows of fractions whose sum is a color."""
+    bottom = fraction_det(*rows)
+    return tuple(fraction_det(*rows[:at], color, *rows[at + 1:]) / bottom for at in range(3))
+
+
+def corner_reflectances(view, color):
+    """All reflectances of a color, in fractions, with at most three values strictly between 0 and 1.
+
+    Each other reflectance of the color is between these; so each end of a
+    range, and the first reflectance of all, is found among them.
+    """
+    generators = [fractions(generator) for generator in view.generators]
+    wanted = fractions(color)
+    found = set()
+    for three in combinations(range(len(view)), 3):
+        others = [band for band in range(len(view)) if band not in three]
+        for bits in product((Fraction(0), Fraction(1)), repeat=len(others)):
+            fixed = fraction_sum([generators[band] for band in others], bits)
+            rest = tuple(part - used for part, used in zip(wanted, fixed))
+            amounts = solved([generators[band] for band in three], rest)
+            if all(0 <= amount <= 1 for amount in amounts):
+                values = dict(zip(others, bits)) | dict(zip(three, amounts))
+                found.add(tuple(values[band] for band in range(len(view))))
+    return found
+
+
+def picture(value):
+    """What a value holds, as a text that changes if anything in it does."""
+    if isinstance(value, (tuple, list)):
+        return f"{type(value).__name__}({', '.join(picture(part) for part in value)})"
+    if hasattr(value, "__dict__"):
+        held = ", ".join(f"{name}: {picture(part)}" for name, part in vars(value).items())
+        return f"{type(value).__name__}[{held}]"
+    return repr(value)
